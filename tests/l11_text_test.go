@@ -171,13 +171,13 @@ var (
 // valid and whose expressions are parsed.
 func readRule(line string) (impl.Rule, bool) {
 	match := ruleForm.FindStringSubmatch(line)
-	if match == nil || !isIntegerName(match[1]) {
+	if match == nil || !isName(match[1]) {
 		return impl.Rule{}, false
 	}
 	r := impl.Rule{Func: match[1]}
 	for _, text := range strings.Split(match[2], " | ")[1:] {
 		x := patternForm.FindStringSubmatch(text)
-		if x == nil || !isListName(x[1]) || x[2] != "nil" && (!isIntegerName(x[3]) || !isListName(x[4])) {
+		if x == nil || !isName(x[1]) || x[2] != "nil" && (!isName(x[3]) || !isName(x[4])) {
 			return impl.Rule{}, false
 		}
 		r.Patterns = append(r.Patterns, impl.Pattern{List: x[1], Cons: x[2] != "nil", Head: x[3], Tail: x[4]})
@@ -203,7 +203,7 @@ func readRule(line string) (impl.Rule, bool) {
 
 func readCall(text string) (impl.Call, bool) {
 	match := callForm.FindStringSubmatch(text)
-	if match == nil || !isName(match[1]) || !isIntegerName(match[2]) {
+	if match == nil || !isName(match[1]) || !isName(match[2]) {
 		return impl.Call{}, false
 	}
 	c := impl.Call{Bind: match[1], Func: match[2]}
@@ -692,12 +692,12 @@ func malformedRules() []string {
 	return slices.Concat(
 		// The function.
 		[]string{"rule", "rule ", "rule  ", "rule  | return 0", "rule | return 0", "rule zero", "rule zero ", "rule zero |", "rule zero | ", "rule F | return 0", "rule fun | return 0", "rule nil | return 0",
-			"rule rule | return 0", "rule 1 | return 0", "rule f_g | return 0", "rule abcdefghi | return 0", "rule zeros | return 0", "rule s | return 0", "rule zero zero | return 0", "rule rule zero | return 0",
+			"rule rule | return 0", "rule 1 | return 0", "rule f_g | return 0", "rule abcdefghi | return 0", "rule abcdefghs | return 0", "rule zero zero | return 0", "rule rule zero | return 0",
 			"rule zero, | return 0", "rule \xff | return 0", "rule f\x00 | return 0", "rule return 0", "rule zero return 0"},
 		// Patterns.
 		inRules("xs", "xs =", "xs = ", "= nil", " = nil", "xs = nil nil", "xs == nil", "xs=nil", "xs =nil", "xs= nil", "xs  = nil", "xs =  nil", "xs = []", "xs = 0", "xs = n", "xs = ts", "xs = NIL", "xs := nil", "xs = nil = nil",
-			"n = nil", "h = h : ts", "nil = nil", "fun = nil", "Xs = nil", "abcdefghs = nil", "xs ys = nil", "rev = nil", "xs + 1 = nil",
-			"xs = h : t", "xs = hs : ts", "xs = ts : h", "xs = h :ts", "xs = h: ts", "xs = h:ts", "xs = h  : ts", "xs = h :  ts", "xs = h : ts : us", "xs = h : k : ts", "xs = h : nil", "xs = nil : ts", "xs = 1 : ts", "xs = h + 1 : ts",
+			"nil = nil", "fun = nil", "Xs = nil", "abcdefghs = nil", "xs ys = nil", "xs + 1 = nil", "nil = h : ts", "x_s = h : ts",
+			"xs = h :ts", "xs = h: ts", "xs = h:ts", "xs = h  : ts", "xs = h :  ts", "xs = h : ts : us", "xs = h : k : ts", "xs = h : nil", "xs = nil : ts", "xs = 1 : ts", "xs = h + 1 : ts",
 			"xs = 2h : ts", "xs = -h : ts", "xs = h : ", "xs = h :", "xs = : ts", "xs =  : ts", "xs = h", "xs = H : ts", "xs = h : TS", "xs = abcdefghi : ts", "xs = h : abcdefghs", "xs = pre : ts", "xs = h ts", "xs = h , ts"),
 		// Guards.
 		inRules("n", "0", "n > 0", "n >= 1", "n >= 00", "n >= -0", "n>= 0", "n >=0", "n>=0", "n  >= 0", "n >=  0", "n >= 0 >= 0", ">= 0", " >= 0", "  >= 0", "n >= m", "n <= 0", "0 <= n", "n = 0", "n => 0",
@@ -706,7 +706,7 @@ func malformedRules() []string {
 		// Calls.
 		inRules("r := ", "r :=", ":= zero", " := zero", "r = zero", "r : = zero", "r:= zero", "r :=zero", "r:=zero", "r  := zero", "r :=  zero", "r := zero := zero", "r := r := zero", "r := zero ", "r := zero  0", "zero", "zero 0",
 			"R := zero", "nil := zero", "1 := zero", "abcdefghi := zero", "r q := zero", "r , q := zero", "2r := zero", "\xff := zero",
-			"r := F", "r := fun", "r := nil", "r := zeros", "r := xs", "r := 0", "r := n + 1", "r := zero + 1", "r := abcdefghi 0", "r := zero_", "r := -zero",
+			"r := F", "r := fun", "r := nil", "r := 0", "r := n + 1", "r := zero + 1", "r := abcdefghi 0", "r := zero_", "r := -zero",
 			"r := zero 0,0", "r := zero 0 ,0", "r := zero 0, 0", "r := zero 0  , 0", "r := zero 0 ,  0", "r := zero 0 , ", "r := zero 0 ,", "r := zero , 0", "r := zero  , 0", "r := zero , ", "r := zero ,", "r := zero 0 , , 0", "r := zero 0 0", "r := zero n m",
 			"r := zero (n)", "r := zero(n)", "r := zero h : t", "r := zero nil : nil", "r := zero xs : ys", "r := zero xs + 1", "r := zero n + m", "r := zero 01", "r := zero 1000000", "r := zero 0 , 1000000", "r := zero 0 : 0 : 0 : 0 : nil", "r := zero a + b + c + d + e",
 			"r := zero N", "r := zero return", "r := zero 0 ; 0"),
@@ -753,17 +753,17 @@ func TestMalformedRules(t *testing.T) {
 // of what is right.
 func TestPartsOfMalformedRules(t *testing.T) {
 	cases := map[string][]string{
-		"rule rev | xs = nil | %s | return ys":                                      {"n = nil", "xs = h : t", "n >= 1", "xs >= 0", "r := ZERO", "r := zero 0 0", "0", "return 0", ""},
-		"rule rev | %s | xs = nil | return ys":                                      {"n = nil", "xs = h : t", "n >= 1", "xs >= 0", "r := zero", "n >= 0", "0", "return 0", ""},
+		"rule rev | xs = nil | %s | return ys":                                      {"1 = nil", "xs = h : T", "n >= 1", "xs >= 0", "r := ZERO", "r := zero 0 0", "0", "return 0", ""},
+		"rule rev | %s | xs = nil | return ys":                                      {"1 = nil", "xs = h : T", "n >= 1", "xs >= 0", "r := zero", "n >= 0", "0", "return 0", ""},
 		"rule rev | n >= 0 | %s | return ys":                                        {"xs = nil", "xs = h : ts", "n >= 1", "xs >= 0", "r := ZERO", "0", ""},
 		"rule rev | r := zero | %s | return ys":                                     {"xs = nil", "xs = h : ts", "n >= 0", "xs >= 0", "r := ZERO", "zero", ""},
 		"rule rev | xs = nil | n >= 0 | r := zero | %s | return ys":                 {"xs = nil", "n >= 0", "q := zero ,", "return ys", ""},
-		"rule rev | xs = %s | return ys":                                            {"h : t", "hs : ts", "nils : ts", "NIL", "nil ", " nil", "h : ts ", "", "h", "ts"},
+		"rule rev | xs = %s | return ys":                                            {"h : T", "H : ts", "nil : ts", "h : nil", "NIL", "nil ", " nil", "h : ts ", "", "h", "ts"},
 		"rule rev | %s - k >= 0 | r := zero | return ys":                            {"n", "xs", "H", "1", "", "h +", "1000000h", "k", "z"},
 		"rule rev | r := len %s , ts | return ys":                                   {"h ,", ", h", "H", "h : h", "", "h +", "1000000h", "n + m", "ts ,"},
 		"rule rev | r := len h , %s | q := zero | return r : ys":                    {"ts ,", ", ts", "h : h", "", "h +", "1000000h", "n + m", "ts ts"},
 		"rule rev | xs = nil | h >= 0 | h - 1 >= 0 | r := len h , ts | return %s":   {"ys :", ": ys", "h : h", "", "h +", "1000000h", "n + m", "ys ys"},
-		"rule %s | xs = nil | h >= 0 | h - 1 >= 0 | r := len h , ts | return h : s": {"rev rev", "revs", "REV", "", "h +", "1", "nil", "rev ", " rev"},
+		"rule %s | xs = nil | h >= 0 | h - 1 >= 0 | r := len h , ts | return h : s": {"rev rev", "Revs", "REV", "", "h +", "1", "nil", "rev ", " rev"},
 	}
 	for form, list := range cases {
 		for _, part := range list {
@@ -782,6 +782,10 @@ func invalidRules() []string {
 			"rule zero | n := zero | return m", "rule zero | m := zero | n := zero | return m + n + z", "rule len | q := len q , xs | return 0", "rule len | q := len r , xs | r := zero | return 0", "rule zero | r := zero | r := zero | return 0"},
 		inRules("xs = nil", "xs = h : ts", "n >= 0", "0 >= 0 | 1 >= 0 | 2 >= 0", "r := one", "r := zero 0", "r := zero nil", "r := zero 0 , 1 , 2 , 3", "rs := zero", "r := rev nil , nil", "rs := len 0 , nil", "r := len 0", "r := len nil , 0", "r := len 0 , 0", "r := len 0 , nil , nil",
 			"r := len 0 , xs", "r := len n , nil", "r := len r , nil", "r := zero | q := zero | p := zero", "rs := rev nil , 0", "xs = nil | ys = nil | zs = nil | as = nil"),
+		// Names of the wrong kind.
+		[]string{"rule zeros | return 0", "rule s | return 0", "rule revs | xs = nil | return ys", "rule xs | return 0", "rule len | n = nil | return 0", "rule len | n = h : ts | return 0", "rule len | xs = h : t | return 0", "rule len | xs = hs : ts | return 0", "rule len | xs = ts : h | return 0",
+			"rule len | xs = nils : ts | return 0", "rule rev | xs = nil | y = nil | return nil", "rule rev | xs = h : ts | ys = ks : u | return nil", "rule lens | n = hs : t | ms := revs h | return 0"},
+		inRules("n = nil", "h = h : ts", "rev = nil", "xsf = nil", "xs = h : tsf", "xs = hs : ts", "r := zeros", "r := xs", "r := zeros 0", "rs := revs nil , nil", "r := zero | q := zeros", "rs := zeros"),
 		[]string{"rule zero" + strings.Repeat(" | xs = nil", 1000) + " | return 0", "rule zero" + strings.Repeat(" | 0 >= 0", 1000) + " | return 0", "rule zero" + strings.Repeat(" | r := zero", 1000) + " | return 0", "rule zero | r := zero 0" + strings.Repeat(" , 0", 1000) + " | return 0"},
 	)
 }
@@ -803,6 +807,127 @@ func TestRulesThatAreNotValid(t *testing.T) {
 		r, _ := readRule(line)
 		p.Rules = append(p.Rules, r)
 		wantSource(t, textOfLines(append(mixedLines(), line)...), p)
+	}
+}
+
+// namePlace is a place of a name in a rule of mixed: %s in the line stands for
+// the name.
+type namePlace struct{ line, name string }
+
+// namePlaces returns every place of a name that is no part of an expression.
+func namePlaces() []namePlace {
+	return []namePlace{
+		{"rule %s | return 0", "zero"},
+		{"rule %s | xs = nil | n - 1 >= 0 | r := zero | return r", "len"},
+		{"rule %s | xs = h : ts | ys = nil | return ts", "rev"},
+		{"rule len | %s = nil | return n", "xs"},
+		{"rule len | %s = h : ts | return h", "xs"},
+		{"rule rev | %s = nil | xs = h : ts | return ts", "ys"},
+		{"rule rev | xs = nil | %s = k : us | return us", "ys"},
+		{"rule len | xs = %s : ts | return n", "h"},
+		{"rule rev | xs = nil | ys = %s : us | k := zero | return us", "h"},
+		{"rule len | xs = h : %s | return h", "ts"},
+		{"rule rev | xs = nil | ys = k : %s | k >= 0 | return xs", "us"},
+		{"rule zero | %s := zero | return 0", "r"},
+		{"rule zero | r := zero | %s := len r , nil | return r", "q"},
+		{"rule len | n >= 0 | %s := rev xs , xs | r := zero | return r", "rs"},
+		{"rule rev | r := zero | %s := rev ys , xs | return xs", "qs"},
+		{"rule zero | r := %s | return r", "zero"},
+		{"rule len | r := %s n - 1 , xs | return r", "len"},
+		{"rule rev | rs := %s ys , xs | return rs", "rev"},
+		{"rule len | r := zero | q := %s | return q", "zero"},
+		{"rule len | rs := rev xs , nil | q := %s 1 , rs | return q", "len"},
+	}
+}
+
+// at returns the line with a name at the place.
+func (x namePlace) at(name string) string { return strings.Replace(x.line, "%s", name, 1) }
+
+// otherKind returns valid names of the kind that is wrong at the place.
+func (x namePlace) otherKind() []string {
+	if isListName(x.name) {
+		return []string{"n", "z", "s1", "xsf", "tss0", "rev", "len", "zero", "int", "list", "funny", "nil1", "abcdefgh", "sssssss7"}
+	}
+	return []string{"s", "ss", "xs", "zs", "revs", "lens", "zeros", "ints", "lists", "funs", "pres", "rules", "returns", "nils", "a1s", "abcdefgs", "ssssssss"}
+}
+
+// notNames returns words that are no valid names of either kind.
+func notNames() []string {
+	return []string{
+		"", "fun", "pre", "rule", "return", "nil", "x_s", "x-s", "1", "1s", "7xs", "-h", "+h", "2h", "N", "Xs", "xS", "XS", "abcdefghi", "abcdefghs", "toolongnas", "sssssssss", "fun f", "h  h", "h  s", " h", "h ", " xs", "xs ",
+		"h,", "h.", "h:", "h=", "h|", "(h)", "_", "\t", "\rxs", "h\x00", "\x00", "\xff", "xs\xff", "\u00e4s", "\u017f", "h\u00e9",
+	}
+}
+
+// malformedLine is a line that is no rule whatever the program is.
+const malformedLine = "rule zero | return 1 +"
+
+// TestNamesOfTheOtherKind has valid names of the wrong kind: the line is a
+// rule, but of no program, so that the number of lines is reported.
+func TestNamesOfTheOtherKind(t *testing.T) {
+	for _, x := range namePlaces() {
+		p := mixed()
+		right, _ := readRule(x.at(x.name))
+		p.Rules = append(p.Rules, right)
+		wantSource(t, textOfLines(append(mixedLines(), x.at(x.name))...), p)
+		for _, name := range x.otherKind() {
+			line := x.at(name)
+			r, ok := readRule(line)
+			if !ok {
+				t.Errorf("the test is wrong: %q is no rule", line)
+			}
+			wantRuleText(t, r, line)
+			wantAtEachPlace(t, line, true)
+			wantLine(t, line, 1)
+			wantLine(t, textOfLines(line), 1)
+			// A malformed line is reported all the same, and so is a first word.
+			wantLine(t, textOfLines("fun zero : int", line, malformedLine), 2)
+			wantLine(t, textOfLines("fun zero : int", malformedLine, line), 1)
+			wantLine(t, textOfLines("fun zero : int", line, line, malformedLine, line, malformedLine), 3)
+			wantLine(t, textOfLines(append(mixedLines(), line, malformedLine)...), len(mixedLines())+1)
+			wantLine(t, textOfLines(append(mixedLines(), malformedLine, line)...), len(mixedLines()))
+			wantLine(t, textOfLines("fun zero : int", line, "rules"), 2)
+			wantLine(t, textOfLines("fun zero : int", line, malformedLine, "rules"), 3)
+		}
+	}
+}
+
+// TestNamesThatAreNotValid has names that are not valid: the line is reported
+// itself.
+func TestNamesThatAreNotValid(t *testing.T) {
+	for _, x := range namePlaces() {
+		for _, name := range notNames() {
+			line := x.at(name)
+			wantAtEachPlace(t, line, false)
+			wantLine(t, line, 0)
+			wantLine(t, textOfLines("fun zero : int", line, malformedLine), 1)
+			wantLine(t, textOfLines("fun zero : int", malformedLine, line), 1)
+			wantLine(t, textOfLines("fun zero : int", line, malformedLine, "rules"), 3)
+			// A name of the wrong kind in another line does not count.
+			for _, other := range x.otherKind()[:3] {
+				wantLine(t, textOfLines("fun zero : int", x.at(other), line), 2)
+				wantLine(t, textOfLines("fun zero : int", line, x.at(other)), 1)
+				wantLine(t, textOfLines(append(mixedLines(), x.at(other), line, malformedLine)...), len(mixedLines())+1)
+			}
+		}
+	}
+}
+
+// TestSeveralNamesOfRules has a name of the wrong kind at all places of a line,
+// and then one that is not valid at one of them.
+func TestSeveralNamesOfRules(t *testing.T) {
+	words := []string{"fs", "y", "xsf", "hs", "t", "rs", "gs", "q", "ks"}
+	write := func(w []string) string {
+		return "rule " + w[0] + " | " + w[1] + " = nil | " + w[2] + " = " + w[3] + " : " + w[4] + " | n >= 0 | " + w[5] + " := " + w[6] + " n , xs | " + w[7] + " := " + w[8] + " | return 1"
+	}
+	wantAtEachPlace(t, write(words), true)
+	for i := range words {
+		for _, name := range notNames() {
+			wrong := slices.Clone(words)
+			wrong[i] = name
+			wantAtEachPlace(t, write(wrong), false)
+			wantLine(t, textOfLines("fun zero : int", write(words), write(wrong), malformedLine), 2)
+		}
 	}
 }
 
