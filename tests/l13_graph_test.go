@@ -794,26 +794,59 @@ func TestGraphFunctionsKeepTheirArguments(t *testing.T) {
 	}
 }
 
-// overwriteResult changes everything that can be reached from a result, the
-// unused capacity of its slices included.
-func overwriteResult(result any) {
-	switch x := result.(type) {
-	case []impl.Edge:
-		for i := range x[:cap(x)] {
-			x[:cap(x)][i] = impl.Edge{Rule: 987, Call: 654}
+// overwriteAll changes everything that can be reached from a result through a
+// slice, the unused capacity of slices included.
+func overwriteAll(v reflect.Value) {
+	switch v.Kind() {
+	case reflect.Struct:
+		for i := range v.NumField() {
+			overwriteAll(v.Field(i))
 		}
-	case []string:
-		overwrite(x)
-	case [][]string:
-		for i := range x {
-			overwrite(x[i])
-			x[i] = []string{"changed"}
+	case reflect.Slice:
+		for i := range v.Cap() {
+			overwriteAll(v.Slice(0, v.Cap()).Index(i))
+		}
+		if v.CanSet() {
+			v.SetZero()
+		}
+	case reflect.Int:
+		if v.CanSet() {
+			v.SetInt(987654)
+		}
+	case reflect.String:
+		if v.CanSet() {
+			v.SetString("changed")
 		}
 	}
 }
 
-// TestGraphResultsAreSeparate compares the memory of all results of two rounds
-// with each other and with the arguments, and changes one after the other.
+// wantResultsApart compares the memory of all results of two rounds, slice by
+// slice, with each other and with the arguments, and changes one round.
+func wantResultsApart(t *testing.T, args []span, describe func() string, call func() []any) {
+	t.Helper()
+	before, first, second := describe(), call(), call()
+	spans := slices.Clone(args)
+	for _, result := range slices.Concat(first, second) {
+		for _, x := range spansOf(reflect.ValueOf(result)) {
+			// One by one, since the slices of one result must not share memory either.
+			if overlap([]span{x}, spans) {
+				t.Fatalf("a result shares memory with %s or another result: %v", before, result)
+			}
+			spans = append(spans, x)
+		}
+	}
+	want := fmt.Sprint(second)
+	for _, result := range first {
+		overwriteAll(reflect.ValueOf(result))
+	}
+	if got := fmt.Sprint(second); got != want || describe() != before {
+		t.Fatalf("a change of results changed others from %s to %s, or %s", want, got, before)
+	}
+	if got := fmt.Sprint(call()); got != want {
+		t.Fatalf("a change of results for %s changed later ones from %s to %s", before, want, got)
+	}
+}
+
 func TestGraphResultsAreSeparate(t *testing.T) {
 	for i, p := range graphPrograms() {
 		if i%3 > 0 && i > 60 {
@@ -822,29 +855,9 @@ func TestGraphResultsAreSeparate(t *testing.T) {
 		p = roomyProgram(p)
 		lists := listsToTry(p)
 		lists = roomyLists(lists[:min(len(lists), 21)])
-		before, listed := describeProgram(p), describeLists(lists)
-		results := append(graphResults(p, lists), graphResults(p, lists)...)
-		spans := append(spansOf(reflect.ValueOf(p)), spansOf(reflect.ValueOf(lists))...)
-		for _, result := range results {
-			for _, x := range spansOf(reflect.ValueOf(result)) {
-				// One by one, since the lists of ComponentsOf must not share memory either.
-				if overlap([]span{x}, spans) {
-					t.Fatalf("a result for program %d shares memory with an argument or another result: %v", i, result)
-				}
-				spans = append(spans, x)
-			}
-		}
-		half := len(results) / 2
-		want := fmt.Sprint(results[half:])
-		for _, result := range results[:half] {
-			overwriteResult(result)
-		}
-		if got := fmt.Sprint(results[half:]); got != want || describeProgram(p) != before || describeLists(lists) != listed {
-			t.Fatalf("a change of results for program %d changed other results or arguments from %s to %s", i, want, got)
-		}
-		if got := fmt.Sprint(graphResults(p, lists)); got != want {
-			t.Fatalf("a change of results for program %d changed later ones from %s to %s", i, want, got)
-		}
+		args := append(spansOf(reflect.ValueOf(p)), spansOf(reflect.ValueOf(lists))...)
+		describe := func() string { return describeProgram(p) + describeLists(lists) }
+		wantResultsApart(t, args, describe, func() []any { return graphResults(p, lists) })
 	}
 }
 
